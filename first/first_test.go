@@ -845,7 +845,8 @@ func TestNothingIsShared(t *testing.T) {
 	again, _, _ := first.All(g)
 	alone, _ := first.Of(g, []int{16})
 	for _, l := range [][]api.Look{again[1], alone, all[0]} {
-		l = append(l, plain("1"), plain("1"))
+		// Also the room behind the looks.
+		l = l[:cap(l)]
 		for i := range l {
 			l[i] = plain("1111")
 		}

@@ -1128,7 +1128,8 @@ func TestNothingIsShared(t *testing.T) {
 	alone, _ := follow.Of(g, 16)
 	behind, _ := follow.Behind(g, 3, 0)
 	for _, l := range [][]api.Look{again[1], alone, behind, all[0]} {
-		l = append(l, plain("1"), plain("1"))
+		// Also the room behind the looks.
+		l = l[:cap(l)]
 		for i := range l {
 			l[i] = plain("1111")
 		}
